@@ -3,9 +3,6 @@ package roots
 
 import "roots/api"
 
-// Holds tells whether a proof shows what a map has for a key (P10).
-func Holds(key []byte, present bool, value []byte, p api.Proof, root api.Sum) bool { return false }
-
 // Ledger is one on a disk.
 type Ledger struct{}
 
