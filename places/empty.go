@@ -6,21 +6,18 @@ import (
 	"roots/api"
 )
 
-// empties is shared by all maps, because an empty part of one has the root of that of any other.
-var empties = emptyTable{}
-
-// emptyTable has the root of the empty part of each number of levels. It is made once, by the first call that needs it.
+// emptyTable has the root of the empty part of each number of levels. It is made once, when it is first asked, and serves all maps that come of one empty map: an empty part of one has the root of that of any other.
 type emptyTable struct {
 	once  sync.Once
 	roots [api.Levels + 1]api.Sum
 }
 
-// emptyRoot is the root of the empty part of so many levels (P9). That of one place is noughts, as the table has them from the start.
-func emptyRoot(levels int) api.Sum {
-	empties.once.Do(func() {
+// root is the root of the empty part of so many levels (P9). That of one place is noughts, as the table has them from the start.
+func (t *emptyTable) root(levels int) api.Sum {
+	t.once.Do(func() {
 		for k := range api.Levels {
-			empties.roots[k+1] = node(empties.roots[k], empties.roots[k])
+			t.roots[k+1] = node(t.roots[k], t.roots[k])
 		}
 	})
-	return empties.roots[levels]
+	return t.roots[levels]
 }

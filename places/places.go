@@ -6,9 +6,15 @@ import (
 	"roots/digest"
 )
 
-// Map is a map of one time. The maps that changes make of it share its parts, so that each of them can be kept. The zero Map is the empty one.
+// Map is a map of one time. The maps that changes make of it share its parts, so that each of them can be kept. The first one is made by Empty.
 type Map struct {
-	top *part
+	top     *part
+	empties *emptyTable
+}
+
+// Empty is the map that has no entry.
+func Empty() Map {
+	return Map{empties: new(emptyTable)}
 }
 
 // part is a part of a map in which there is an entry. One without an entry is nil at every level, whatever was in it before, so that no hashes need be held against each other to tell it.
@@ -41,12 +47,13 @@ func (m Map) After(c api.Change) Map {
 
 // Root is the root of the map (P9).
 func (m Map) Root() api.Sum {
-	return m.top.rootAt(api.Levels)
+	return m.top.rootAt(api.Levels, m.empties)
 }
 
 // with is the map that has another entry (nil: none) at a place.
 func (m Map) with(at uint64, e *entry) Map {
-	return Map{m.top.with(api.Levels, at, e)}
+	m.top = m.top.with(api.Levels, at, e, m.empties)
+	return m
 }
 
 // find is the entry of a place; nil: it is empty.
@@ -87,25 +94,25 @@ func (p *part) halves(at uint64, k int) (way, beside *part) {
 }
 
 // rootAt is the root of a part of so many levels (P9).
-func (p *part) rootAt(levels int) api.Sum {
+func (p *part) rootAt(levels int, empties *emptyTable) api.Sum {
 	if p == nil {
-		return emptyRoot(levels)
+		return empties.root(levels)
 	}
 	return p.root
 }
 
 // with is the part, of so many levels, that has another entry (nil: none) at a place. Only the parts that the place is in are made anew.
-func (p *part) with(levels int, at uint64, e *entry) *part {
+func (p *part) with(levels int, at uint64, e *entry, empties *emptyTable) *part {
 	if levels == 0 {
 		return single(e)
 	}
 	k := levels - 1
 	way, beside := p.halves(at, k)
-	way = way.with(k, at, e)
+	way = way.with(k, at, e, empties)
 	if isUpper(at, k) {
-		return join(beside, way, k)
+		return join(beside, way, k, empties)
 	}
-	return join(way, beside, k)
+	return join(way, beside, k, empties)
 }
 
 // single is the part of one place.
@@ -117,11 +124,11 @@ func single(e *entry) *part {
 }
 
 // join is the part whose halves are two of k levels.
-func join(lower, upper *part, k int) *part {
+func join(lower, upper *part, k int, empties *emptyTable) *part {
 	if lower == nil && upper == nil {
 		return nil
 	}
-	return &part{root: node(lower.rootAt(k), upper.rootAt(k)), lower: lower, upper: upper}
+	return &part{root: node(lower.rootAt(k, empties), upper.rootAt(k, empties)), lower: lower, upper: upper}
 }
 
 // entryRoot is the root of a place that has an entry, by the hashes of its key and its value (P9).

@@ -60,11 +60,12 @@ func start(keySum api.Sum, present bool, value []byte, p api.Proof) (sum api.Sum
 	return api.Sum{}, true
 }
 
-// climb is where a proof leads from the root of a place; it has as many hashes as its Mask says.
+// climb is where a proof leads from the root of a place; it has as many hashes as its Mask says. A proof comes without a map, so the table of empty parts is one of the call's own.
 func climb(sum api.Sum, at uint64, p api.Proof) api.Sum {
+	var empties emptyTable
 	path := p.Path
 	for k := range api.Levels {
-		beside := emptyRoot(k)
+		beside := empties.root(k)
 		if p.Mask>>k&1 == 1 {
 			beside, path = path[0], path[1:]
 		}

@@ -10,7 +10,7 @@ import (
 
 // TestShared: a change makes the parts anew that its place is in, and shares all others with the map that was.
 func TestShared(t *testing.T) {
-	var m Map
+	m := Empty()
 	for i := range 20 {
 		m = m.After(api.Change{Key: []byte{byte(i)}})
 	}
@@ -37,7 +37,7 @@ func TestShared(t *testing.T) {
 
 // TestSame: a change that changes nothing answers the map itself.
 func TestSame(t *testing.T) {
-	m := Map{}.After(api.Change{Key: []byte("a"), Value: []byte("1")})
+	m := Empty().After(api.Change{Key: []byte("a"), Value: []byte("1")})
 	for _, c := range []api.Change{
 		{Kind: api.Delete, Key: []byte("b")},
 		{Kind: api.Swap, Key: []byte("a"), Value: []byte("2")},
@@ -52,19 +52,41 @@ func TestSame(t *testing.T) {
 
 // TestEmptyOnce: the table is whole for whoever comes first, and is not made again.
 func TestEmptyOnce(t *testing.T) {
-	var group sync.WaitGroup
+	var (
+		empties emptyTable
+		group   sync.WaitGroup
+	)
 	for range 32 {
 		group.Go(func() {
 			for k := range api.Levels {
-				if emptyRoot(k+1) != node(emptyRoot(k), emptyRoot(k)) {
+				if empties.root(k+1) != node(empties.root(k), empties.root(k)) {
 					t.Errorf("the root of the empty part of %d levels", k+1)
 				}
 			}
 		})
 	}
 	group.Wait()
-	if emptyRoot(0) != (api.Sum{}) {
+	if empties.root(0) != (api.Sum{}) {
 		t.Errorf("the root of an empty place is not noughts")
 	}
 	empties.once.Do(func() { t.Errorf("the table is not made once") })
+}
+
+// TestEmptyShared: the maps that come of one empty map have its table, whatever the change does, so it is made once for all of them.
+func TestEmptyShared(t *testing.T) {
+	m := Empty()
+	table := m.empties
+	for _, c := range []api.Change{
+		{Key: []byte("a"), Value: []byte("1")},
+		{Kind: api.Swap, Key: []byte("a"), Value: []byte("2"), Old: digest.Sum([]byte("1"))},
+		{Kind: api.Delete, Key: []byte("b")},
+		{Kind: api.Delete, Key: []byte("a")},
+	} {
+		if m = m.After(c); m.empties != table {
+			t.Errorf("the map after a change of kind %d has another table", c.Kind)
+		}
+	}
+	if m != (Map{empties: table}) {
+		t.Errorf("the emptied map is not the empty one")
+	}
 }

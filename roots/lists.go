@@ -41,8 +41,3 @@ func Included(leaf []byte, i, n int, path []api.Sum, root api.Sum) bool {
 func Extended(m, n int, path []api.Sum, a, b api.Sum) bool {
 	return tree.Extended(m, n, path, a, b)
 }
-
-// failed wraps an error with the call that it comes of.
-func failed(call string, e api.Errno) error {
-	return &api.Failed{Call: call, Err: e}
-}

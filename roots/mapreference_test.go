@@ -54,12 +54,17 @@ func refAfter(m refMap, c api.Change) refMap {
 // refLevels has for each level the roots of the parts that are not empty, by the bits that their places begin with.
 type refLevels [65]map[uint64]api.Sum
 
-// refEmpty is the root of an empty part.
-func refEmpty(level int) (s api.Sum) {
-	for range level {
-		s = refTwo(3, s, s)
+// refEmpties are the roots of empty parts.
+var refEmpties = func() (l [65]api.Sum) {
+	for k := range 64 {
+		l[k+1] = refTwo(3, l[k], l[k])
 	}
-	return s
+	return l
+}()
+
+// refEmpty is the root of an empty part.
+func refEmpty(level int) api.Sum {
+	return refEmpties[level]
 }
 
 func refLevelsOf(m refMap) (l refLevels) {

@@ -33,7 +33,7 @@ func swap(key, old, value string) api.Change {
 
 // mapOf is the map that changes make of the empty one.
 func mapOf(changes ...api.Change) places.Map {
-	var m places.Map
+	m := places.Empty()
 	for _, c := range changes {
 		m = m.After(c)
 	}
@@ -158,9 +158,8 @@ func TestManyChanges(t *testing.T) {
 	var (
 		all  []places.Map
 		want []refMap
-		m    places.Map
 	)
-	ref := refMap{}
+	m, ref := places.Empty(), refMap{}
 	for _, c := range changes {
 		m, ref = m.After(c), refAfter(ref, c)
 		all, want = append(all, m), append(want, ref)
@@ -176,7 +175,8 @@ func TestManyChanges(t *testing.T) {
 // TestEmptied: P9, a map whose entries have all gone is the empty one, and its proofs have no hashes.
 func TestEmptied(t *testing.T) {
 	keys := []string{lowerKey, upperKey, "a", "b", "c"}
-	var m places.Map
+	empty := places.Empty()
+	m := empty
 	for _, k := range keys {
 		m = m.After(set(k, k))
 	}
@@ -184,7 +184,7 @@ func TestEmptied(t *testing.T) {
 		m = m.After(remove(k))
 	}
 	checkMap(t, "an emptied map", m, refMap{}, keys)
-	if m != (places.Map{}) {
+	if m != empty {
 		t.Errorf("P9: an emptied map is not the empty one")
 	}
 }
