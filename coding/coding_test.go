@@ -70,6 +70,28 @@ func TestReader(t *testing.T) {
 	}
 }
 
+// TestText: a text comes back as it was, up to the greatest length of two bytes, and not where bytes are missing.
+func TestText(t *testing.T) {
+	for _, n := range []int{0, 1, 20, 255, 256, 1<<16 - 1} {
+		want := bytes.Repeat([]byte("x"), n)
+		b := AppendText([]byte("ahead"), want)[5:]
+		if len(b) != 2+n || int(b[0])<<8+int(b[1]) != n {
+			t.Errorf("a text of %d bytes has %d, and begins with %x", n, len(b), b[:2])
+		}
+		var back []byte
+		r := NewReader(append(b, "behind"...))
+		if !Sound(func() { back = r.Text() }) || !bytes.Equal(back, want) || cap(back) != n || string(r.Rest()) != "behind" {
+			t.Errorf("a text of %d bytes came back with %d, and room for %d", n, len(back), cap(back))
+		}
+		for _, short := range []int{0, 1, len(b) - 1} {
+			r := NewReader(b[:short])
+			if short < len(b) && Sound(func() { r.Text() }) {
+				t.Errorf("of a text of %d bytes the first %d are one", len(b), short)
+			}
+		}
+	}
+}
+
 // TestBack: P12, changes and records come back as they were written.
 func TestBack(t *testing.T) {
 	for _, c := range []api.Change{

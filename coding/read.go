@@ -69,9 +69,11 @@ func (r *Reader) Sum() api.Sum {
 func (r *Reader) Change() api.Change {
 	c := api.Change{Kind: int(r.Number(1))}
 	Need(c.Kind <= api.Swap)
-	c.Key = r.text(api.MaxKey)
+	c.Key = r.Text()
+	Need(len(c.Key) <= api.MaxKey)
 	if HasValue(c.Kind) {
-		c.Value = r.text(api.MaxValue)
+		c.Value = r.Text()
+		Need(len(c.Value) <= api.MaxValue)
 	}
 	if c.Kind == api.Swap {
 		c.Old = r.Sum()
@@ -79,11 +81,9 @@ func (r *Reader) Change() api.Change {
 	return c
 }
 
-// text is a key or a value of at most so many bytes.
-func (r *Reader) text(most int) []byte {
-	n := int(r.Number(2))
-	Need(n <= most)
-	return r.Take(n)
+// Text is a text (a key, a value, a change as bytes) that has its length, two bytes, ahead of it.
+func (r *Reader) Text() []byte {
+	return r.Take(int(r.Number(2)))
 }
 
 // Record is a record (P12).

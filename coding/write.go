@@ -14,9 +14,9 @@ func AppendNumber(b []byte, size int, n uint32) []byte {
 // AppendChange puts a change as bytes behind b. Its kind is one of the three, its key and its value are not too long.
 func AppendChange(b []byte, c api.Change) []byte {
 	b = append(b, byte(c.Kind))
-	b = appendText(b, c.Key)
+	b = AppendText(b, c.Key)
 	if HasValue(c.Kind) {
-		b = appendText(b, c.Value)
+		b = AppendText(b, c.Value)
 	}
 	if c.Kind == api.Swap {
 		b = append(b, c.Old[:]...)
@@ -29,8 +29,8 @@ func HasValue(kind int) bool {
 	return kind != api.Delete
 }
 
-// appendText puts a key or a value behind b, with its length ahead of it.
-func appendText(b, text []byte) []byte {
+// AppendText puts a text (a key, a value, a change as bytes) behind b, with its length, two bytes, ahead of it.
+func AppendText(b, text []byte) []byte {
 	return append(AppendNumber(b, 2, uint32(len(text))), text...)
 }
 

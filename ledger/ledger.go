@@ -1,4 +1,4 @@
-// Package ledger: what a ledger knows (P11), how it is written to a disk and read from it (P12 to P14), and what it tells (P15).
+// Package ledger: what a ledger knows (P11), how it is written to a disk and read from it (P12 to P14), what it tells (P15), and what it hands out to others, who need not trust it (P17, P18).
 package ledger
 
 import (

@@ -57,12 +57,17 @@ func (b *Book) obey(r *coding.Reader) {
 	case letterKnow:
 		told := r.Record()
 		r.End()
-		more := told.Size - b.last().record.Size
-		coding.Need(more >= 1 && more <= b.unknown())
-		s := b.next(more)
-		coding.Need(s.record == told)
-		b.know(s)
+		b.learn(told)
 	default:
 		coding.Need(false)
 	}
+}
+
+// learn makes known what a record tells, if it is so.
+func (b *Book) learn(told api.Record) {
+	more := told.Size - b.last().record.Size
+	coding.Need(more >= 1 && more <= b.unknown())
+	s := b.next(more)
+	coding.Need(s.record == told)
+	b.know(s)
 }

@@ -130,6 +130,7 @@ func everything(x *roots.Ledger, keys []string) string {
 			fmt.Fprintln(&s, p, err)
 		}
 	}
+	fmt.Fprintf(&s, "%x\n", x.Export())
 	return s.String()
 }
 
@@ -151,5 +152,8 @@ func checkBook(t *testing.T, what string, x *roots.Ledger, b refBook) {
 		if r, err := x.Record(k); r != want || err != nil {
 			t.Errorf("P11, P15: %s: record %d: %d %s, %v, want %d %s", what, k, r.Size, shorts(r.Log, r.Map), err, want.Size, shorts(want.Log, want.Map))
 		}
+	}
+	if got, want := string(x.Export()), b.export(); got != want {
+		t.Errorf("P17: %s: Export tells %x, want %x", what, got, want)
 	}
 }
